@@ -1,0 +1,1 @@
+"""News from one: how news goes through a tree of people, each telling one an hour."""
