@@ -1,11 +1,12 @@
 """The calls on one object, read from a list of whole numbers and answered as one."""
 
-from newstree.tree import NOBODY, are_joined, calling_order, could_be, need, plan_hours, size
+from newstree.tree import NOBODY, are_joined, calling_order, could_be, ends, hours_from_each, need, plan_hours
+from newstree.tree import ranked, side, size, way
 
 MOST_PEOPLE = 14
 
 NONE_SUCH = -2
-NONE_LEFT = -6
+NONE_ELSE = -6
 NOT_BEGUN = -11
 NOT_JOINED = -22
 NOT_ONE_EACH = -22
@@ -14,14 +15,14 @@ TOO_MANY = -28
 BEGIN = 0
 COULD = 6
 
-# By a call's number, of all calls that the document tells: before a begin each of them is answered.
+# By a call's number: how many whole numbers it has, and how many of them, ahead, are people.
 NUMBERS = (0, 1, 0, 1, 1, 2, 1, 2, 2, 2, 2, 1, 2, 0, 0, 1, 0, 0)
 PEOPLE = (0, 1, 0, 1, 1, 2, 1, 1, 2, 2, 2, 1, 2, 0, 0, 1, 0, 0)
 
 
-# Of a call that the document tells and that isn't answered yet: an answer made up would be taken for a true one.
-class CallNotBuilt(NotImplementedError):
-    pass
+def counted(people):
+    """How many they are, then these."""
+    return [len(people)] + people
 
 
 def answer_begin(joined, numbers):
@@ -39,7 +40,7 @@ def answer_join(joined, numbers):
 
 def answer_drop(joined, numbers):
     if len(joined) == 1:
-        return [NONE_LEFT]
+        return [NONE_ELSE]
     joined.pop()
     return [len(joined)]
 
@@ -57,8 +58,7 @@ def answer_order(joined, numbers):
     teller = numbers[1]
     if person != teller and not are_joined(joined, person, teller):
         return [NOT_JOINED]
-    called = calling_order(joined, person, teller)
-    return [len(called)] + called
+    return counted(calling_order(joined, person, teller))
 
 
 def answer_could(joined, numbers):
@@ -81,6 +81,49 @@ def answer_part(joined, numbers):
     return [need(joined, person, viewer), size(joined, person, viewer)]
 
 
+def answer_far(joined, numbers):
+    return [len(way(joined, numbers[0], numbers[1])) - 1]
+
+
+def answer_between(joined, numbers):
+    return counted(way(joined, numbers[0], numbers[1]))
+
+
+def answer_first(joined, numbers):
+    pairs = ranked(joined, numbers[0], numbers[0])
+    if len(pairs) == 0:
+        return [NONE_ELSE]
+    return [pairs[0][1], -pairs[0][0]]
+
+
+def answer_more(joined, numbers):
+    if len(joined) == MOST_PEOPLE:
+        return [TOO_MANY]
+    person = numbers[0]
+    return [need(joined + [numbers[1]], person, person), need(joined, person, person)]
+
+
+def answer_least(joined, numbers):
+    return [min(hours_from_each(joined))]
+
+
+def answer_all(joined, numbers):
+    hours = hours_from_each(joined)
+    return [max(hours)] + hours
+
+
+def answer_near(joined, numbers):
+    return counted(side(joined, numbers[0], numbers[0]))
+
+
+def answer_ends(joined, numbers):
+    return counted(ends(joined))
+
+
+def answer_state(joined, numbers):
+    return [len(joined)] + joined[1:]
+
+
 ANSWERERS = (
     answer_begin,
     answer_join,
@@ -91,6 +134,15 @@ ANSWERERS = (
     answer_could,
     answer_by,
     answer_part,
+    answer_far,
+    answer_between,
+    answer_first,
+    answer_more,
+    answer_least,
+    answer_all,
+    answer_near,
+    answer_ends,
+    answer_state,
 )
 
 
@@ -110,8 +162,6 @@ def answer(joined, call, numbers):
     for person in numbers[:PEOPLE[call]]:
         if not 0 <= person < len(joined):
             return [NONE_SUCH]
-    if call >= len(ANSWERERS):
-        raise CallNotBuilt(f"call {call}")
     answerer = ANSWERERS[call]
     return answerer(joined, numbers)
 

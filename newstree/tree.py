@@ -17,6 +17,24 @@ def side(joined, person, teller):
     return [other for other in range(len(joined)) if other != teller and are_joined(joined, person, other)]
 
 
+def ends(joined):
+    """All who are joined with just one, rising."""
+    return [person for person in range(len(joined)) if len(side(joined, person, person)) == 1]
+
+
+def way(joined, one, other):
+    """All who lie on the way between the two, both too, rising."""
+    passed = []
+    while one != other:
+        # Everybody was joined to a lesser number, so the way from the greater begins with whom they were joined to.
+        greater = max(one, other)
+        passed.append(greater)
+        other = min(one, other)
+        one = joined[greater]
+    passed.append(one)
+    return sorted(passed)
+
+
 def size(joined, person, teller):
     """How many people the person's part has."""
     return 1 + sum([size(joined, other, person) for other in side(joined, person, teller)])
@@ -34,6 +52,11 @@ def need(joined, person, teller):
     for place, pair in enumerate(ranked(joined, person, teller), start=1):
         most = max(most, place - pair[0])
     return most
+
+
+def hours_from_each(joined):
+    """Of each person, in how few hours all know, from them."""
+    return [need(joined, person, person) for person in range(len(joined))]
 
 
 def calling_order(joined, person, teller):

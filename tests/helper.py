@@ -1,6 +1,7 @@
 """Calls by their names in, one list of numbers for each call out."""
 
 import itertools
+import random
 
 from newstree.news import answers
 
@@ -67,16 +68,44 @@ def neighbours(tellers):
     return joins
 
 
+def nearer_ones(tellers, origin):
+    """Of each person, who is nearer to the origin and joined with them; of the origin None."""
+    joins = neighbours(tellers)
+    nearer = {origin: None}
+    waiting = [origin]
+    for person in waiting:
+        for other in joins[person]:
+            if other not in nearer:
+                nearer[other] = person
+                waiting.append(other)
+    return nearer
+
+
+def way_between(tellers, one_end, other_end):
+    """Whom one passes from one end to the other, both too, in order."""
+    nearer = nearer_ones(tellers, other_end)
+    passed = [one_end]
+    while passed[-1] != other_end:
+        passed.append(nearer[passed[-1]])
+    return passed
+
+
+def some_trees():
+    """Trees of up to fourteen people, the same each time."""
+    chance = random.Random(14)
+    trees = [LONG_ROW, STAR]
+    for people in list(range(1, 15)) * 8:
+        trees.append([chance.randrange(k) for k in range(1, people)])
+        trees.append([chance.randrange(max(0, k - 3), k) for k in range(1, people)])
+    return trees
+
+
 def look(people):
-    """Calls that show all there is of a tree of so many people."""
-    calls = []
+    """Calls that show all there is of a tree of so many people, and that there are no more."""
+    calls = [("state",), ("all",), ("ends",), ("hours", people)]
     for p in range(people):
-        calls.append(("plan", p))
-        for q in range(people):
-            calls.append(("order", p, q))
-            calls.append(("part", p, q))
-    # The next one's number tells how many there are; taken back at once.
-    return calls + [("hours", people), ("join", 0), ("drop",)]
+        calls.extend([("plan", p), ("near", p)])
+    return calls
 
 
 ROW = [0, 1, 2, 3]

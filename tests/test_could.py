@@ -3,25 +3,12 @@
 import itertools
 import unittest
 
-from tests.helper import GREATEST, ROW, STAR, all_trees, ask_tree, look, neighbours, one
-
-
-def tellers_from(tellers, origin):
-    """Of each person, who is nearer to the origin and joined with them."""
-    joins = neighbours(tellers)
-    nearer = {origin: None}
-    waiting = [origin]
-    for person in waiting:
-        for other in joins[person]:
-            if other not in nearer:
-                nearer[other] = person
-                waiting.append(other)
-    return nearer
+from tests.helper import GREATEST, ROW, STAR, all_trees, ask_tree, look, nearer_ones, one
 
 
 def could_by_words(tellers, origin, hours):
     """The document's words, person by person and pair by pair."""
-    nearer = tellers_from(tellers, origin)
+    nearer = nearer_ones(tellers, origin)
     if hours[origin] != 0:
         return 0
     others = [person for person in nearer if person != origin]

@@ -1,10 +1,9 @@
-"""What holds: a, b, c, and what binds hours, plan, by, order and part together."""
+"""What holds, a to f, on many trees; and what binds the calls together."""
 
 import itertools
-import random
 import unittest
 
-from tests.helper import LONG_ROW, STAR, all_trees, ask_tree, neighbours
+from tests.helper import all_trees, ask_tree, look, neighbours, one, some_trees, way_between
 
 
 def fewest_hours(joins, origin):
@@ -21,28 +20,6 @@ def fewest_hours(joins, origin):
         states = later
         hours += 1
     return hours
-
-
-def farthest(joins, origin):
-    """How many joins the farthest is away."""
-    known = {origin}
-    edge = [origin]
-    away = -1
-    while edge:
-        away += 1
-        edge = sorted({other for person in edge for other in joins[person]} - known)
-        known.update(edge)
-    return away
-
-
-def some_trees():
-    """Trees of up to fourteen people, the same each time."""
-    chance = random.Random(14)
-    trees = [LONG_ROW, STAR]
-    for people in list(range(1, 15)) * 8:
-        trees.append([chance.randrange(k) for k in range(1, people)])
-        trees.append([chance.randrange(max(0, k - 3), k) for k in range(1, people)])
-    return trees
 
 
 class NoPlanIsSooner(unittest.TestCase):
@@ -84,8 +61,111 @@ class Bounds(unittest.TestCase):
             joins = neighbours(tellers)
             for p in range(len(joins)):
                 hours = ask_tree(tellers, ("hours", p))[0][0]
-                self.assertGreaterEqual(hours, farthest(joins, p))
+                for q in range(len(joins)):
+                    self.assertGreaterEqual(hours, len(way_between(tellers, p, q)) - 1)
                 self.assertGreaterEqual(hours, max(len(others) for others in joins))
+
+
+class LittleDiffers(unittest.TestCase):
+    def check(self, tellers):
+        people = len(tellers) + 1
+        hours = one(tellers, "all")[1:]
+        for k, teller in enumerate(tellers):
+            self.assertLessEqual(abs(hours[k + 1] - hours[teller]), 1, (tellers, k + 1))
+        if people == 14:
+            return
+        for q in range(people):
+            later = ask_tree(tellers, *[("more", p, q) for p in range(people)])
+            joined = ask_tree(list(tellers) + [q], *[("hours", p) for p in range(people)])
+            for p in range(people):
+                self.assertEqual(later[p], joined[p] + [hours[p]], (tellers, p, q))
+                self.assertIn(later[p][0] - later[p][1], (0, 1), (tellers, p, q))
+
+    def test_on_every_small_tree(self):
+        for people in range(1, 7):
+            for tellers in all_trees(people):
+                self.check(tellers)
+
+    def test_on_greater_trees(self):
+        for tellers in some_trees():
+            self.check(tellers)
+
+
+class OneWay(unittest.TestCase):
+    def test_as_far_there_as_back(self):
+        for tellers in some_trees():
+            people = range(len(tellers) + 1)
+            pairs = list(itertools.product(people, people))
+            there = ask_tree(tellers, *[("far", p, q) for p, q in pairs])
+            self.assertEqual(there, ask_tree(tellers, *[("far", q, p) for p, q in pairs]))
+            self.assertEqual(there, [[len(way_between(tellers, p, q)) - 1] for p, q in pairs])
+
+    def test_the_same_way_there_as_back(self):
+        for tellers in some_trees():
+            people = range(len(tellers) + 1)
+            pairs = list(itertools.product(people, people))
+            there = ask_tree(tellers, *[("between", p, q) for p, q in pairs])
+            self.assertEqual(there, ask_tree(tellers, *[("between", q, p) for p, q in pairs]))
+            for (p, q), answered in zip(pairs, there):
+                passed = sorted(way_between(tellers, p, q))
+                self.assertEqual(answered, [len(passed)] + passed, (tellers, p, q))
+
+    def test_one_person_more_than_joins(self):
+        for tellers in some_trees():
+            people = range(len(tellers) + 1)
+            for p in people:
+                far = ask_tree(tellers, *[("far", p, q) for q in people])
+                between = ask_tree(tellers, *[("between", p, q) for q in people])
+                self.assertEqual([answered[0] for answered in between], [answered[0] + 1 for answered in far])
+
+    def test_who_lies_between_is_as_far_from_both_as_these_from_one_another(self):
+        for tellers in some_trees():
+            people = range(len(tellers) + 1)
+            far = [[answered[0] for answered in ask_tree(tellers, *[("far", p, q) for q in people])] for p in people]
+            for p, q in itertools.product(people, people):
+                between = [k for k in people if far[p][k] + far[k][q] == far[p][q]]
+                self.assertEqual(one(tellers, "between", p, q)[1:], between, (tellers, p, q))
+
+
+class NothingChanges(unittest.TestCase):
+    def tellings(self, people):
+        """Every call that only tells, refused or not, of so many people and one more."""
+        calls = [("least",), ("all",), ("ends",), ("state",)]
+        for p in range(people + 1):
+            calls.extend([(name, p) for name in ("hours", "plan", "first", "near")])
+            calls.extend([("by", p, 1), ("could", p, list(range(people))), ("could", p, [0])])
+            for q in range(people + 1):
+                calls.extend([(name, p, q) for name in ("order", "part", "far", "between", "more")])
+        return calls
+
+    def test_by_a_call_that_only_tells(self):
+        for tellers in ([], [0], [0, 1], [0, 0, 1, 1, 2]):
+            people = len(tellers) + 1
+            before = ask_tree(tellers, *look(people))
+            for call in self.tellings(people):
+                self.assertEqual(ask_tree(tellers, call, *look(people))[1:], before, call)
+
+    def test_by_many_of_them(self):
+        for tellers in some_trees():
+            people = len(tellers) + 1
+            calls = self.tellings(people)
+            before = ask_tree(tellers, *look(people))
+            for start in range(0, len(calls), 300):
+                self.assertEqual(ask_tree(tellers, *calls[start:start + 300], *look(people))[-len(before):], before)
+
+    def test_by_a_refusal(self):
+        for tellers in some_trees():
+            people = len(tellers) + 1
+            refused = [("join", people), ("more", people, 0), ("more", 0, people), ("far", people, 0),
+                       ("between", 0, people), ("first", people), ("near", people), ("could", 0, [0] * (people + 1))]
+            if people == 1:
+                refused.extend([("drop",), ("first", 0)])
+            if people == 14:
+                refused.extend([("join", 0), ("more", 0, 13)])
+            answered = ask_tree(tellers, *refused, *look(people))
+            for numbers in answered[:len(refused)]:
+                self.assertEqual((len(numbers), numbers[0] < 0), (1, True))
+            self.assertEqual(answered[len(refused):], ask_tree(tellers, *look(people)))
 
 
 class Together(unittest.TestCase):
@@ -116,6 +196,20 @@ class Together(unittest.TestCase):
                         told[called] = told[person] + place
                         waiting.append((called, person))
                 self.assertEqual(ask_tree(tellers, ("plan", p))[0][1:], [told[k] for k in range(len(tellers) + 1)])
+
+    def test_first_is_the_first_of_the_order(self):
+        for tellers in some_trees():
+            for p in range(len(tellers) + 1):
+                first, order = ask_tree(tellers, ("first", p), ("order", p, p))
+                if order[0] == 0:
+                    self.assertEqual(first, [-6])
+                else:
+                    self.assertEqual(first, [order[1]] + one(tellers, "part", p, order[1])[:1])
+
+    def test_least_and_all_agree_with_hours(self):
+        for tellers in some_trees():
+            hours = [answered[0] for answered in ask_tree(tellers, *[("hours", p) for p in range(len(tellers) + 1)])]
+            self.assertEqual(ask_tree(tellers, ("least",), ("all",)), [[min(hours)], [max(hours)] + hours])
 
 
 if __name__ == "__main__":

@@ -104,6 +104,24 @@ class Language(unittest.TestCase):
             self.assertNotIn("*", [alias.name for alias in node.names], name)
         self.assertEqual(nodes(ast.Import), [])
 
+    def test_names_of_a_top_are_bound_once_and_not_elsewhere(self):
+        for name, text in files().items():
+            tree = ast.parse(text)
+            tops = []
+            for node in tree.body:
+                if isinstance(node, ast.ImportFrom):
+                    tops.extend(alias.asname or alias.name for alias in node.names)
+                elif isinstance(node, (ast.FunctionDef, ast.ClassDef)):
+                    tops.append(node.name)
+                elif isinstance(node, ast.Assign):
+                    tops.append(node.targets[0].id)
+            self.assertEqual(sorted(tops), sorted(set(tops)), name)
+            for define in [node for node in tree.body if isinstance(node, ast.FunctionDef)]:
+                bound = [node.arg for node in ast.walk(define) if isinstance(node, ast.arg)]
+                bound.extend(node.id for node in ast.walk(define)
+                             if isinstance(node, ast.Name) and isinstance(node.ctx, ast.Store))
+                self.assertEqual([word for word in bound if word in tops], [], (name, define.name))
+
 
 if __name__ == "__main__":
     unittest.main()

@@ -1,11 +1,14 @@
-"""Point 1, of begin, join and drop; and before a begin."""
+"""Point 1; before a begin; and no such person."""
 
 import unittest
 
-from tests.helper import CALL_NAMES, GREATEST, LONG_ROW, STAR, ask, ask_tree, look, one
+from tests.helper import (CALL_NAMES, GREATEST, LONG_ROW, ROW, STAR, ask, ask_tree, look, neighbours, one,
+                          some_trees)
 
 ARGUMENTS = {"join": (9,), "hours": (9,), "plan": (9,), "order": (9, 9), "could": (9, [9]), "by": (9, 9),
              "part": (9, 9), "far": (9, 9), "between": (9, 9), "first": (9,), "more": (9, 9), "near": (9,)}
+OF_ONE = ("join", "hours", "plan", "first", "near")
+OF_TWO = ("order", "part", "far", "between", "more")
 
 
 class BeforeABegin(unittest.TestCase):
@@ -26,6 +29,29 @@ class BeforeABegin(unittest.TestCase):
     def test_a_row_of_hours_is_passed_over(self):
         for many in range(17):
             self.assertEqual(ask(("could", 0, [0] * many), ("begin",), ("hours", 0)), [[-11], [0], [0]])
+
+
+class NoSuchPerson(unittest.TestCase):
+    def calls_about(self, person):
+        """Every call that tells of a person, such a one being in each place where one stands."""
+        calls = [(name, person) for name in OF_ONE]
+        for name in OF_TWO:
+            calls.extend([(name, person, 0), (name, 0, person), (name, person, person)])
+        return calls + [("by", person, 0), ("could", person, [0]), ("could", person, [])]
+
+    def test_every_call_with_every_number_of_people(self):
+        for people in range(1, 15):
+            tellers = [k // 2 for k in range(people - 1)]
+            for person in (people, people + 1, 15, 4294967294, GREATEST):
+                with self.subTest(people=people, person=person):
+                    calls = self.calls_about(person)
+                    answered = ask_tree(tellers, *calls, *look(people))
+                    self.assertEqual(answered[:len(calls)], [[-2]] * len(calls))
+                    self.assertEqual(answered[len(calls):], ask_tree(tellers, *look(people)))
+
+    def test_after_a_drop_they_are_gone(self):
+        calls = self.calls_about(2)
+        self.assertEqual(ask_tree([0, 1], ("drop",), *calls), [[2]] + [[-2]] * len(calls))
 
 
 class Begin(unittest.TestCase):
@@ -67,8 +93,7 @@ class Join(unittest.TestCase):
         tellers = [0, 0, 1, 1, 2]
         before = ask_tree(tellers, *look(6))
         self.assertEqual(ask_tree(tellers, ("join", 6), ("join", GREATEST), *look(6))[2:], before)
-        plans = [("plan", p) for p in range(14)]
-        self.assertEqual(ask_tree(STAR, ("join", 3), *plans)[1:], ask_tree(STAR, *plans))
+        self.assertEqual(ask_tree(STAR, ("join", 3), *look(14)), [[-28]] + ask_tree(STAR, *look(14)))
 
 
 class Drop(unittest.TestCase):
@@ -83,6 +108,91 @@ class Drop(unittest.TestCase):
 
     def test_the_next_is_joined_anew(self):
         self.assertEqual(ask_tree([0, 1, 2], ("drop",), ("join", 0), *look(4))[2:], ask_tree([0, 1, 0], *look(4)))
+
+
+class Near(unittest.TestCase):
+    def test_one_person(self):
+        self.assertEqual(one([], "near", 0), [0])
+
+    def test_two(self):
+        self.assertEqual(ask_tree([0], ("near", 0), ("near", 1)), [[1, 1], [1, 0]])
+
+    def test_a_row(self):
+        self.assertEqual(ask_tree(ROW, *[("near", p) for p in range(5)]),
+                         [[1, 1], [2, 0, 2], [2, 1, 3], [2, 2, 4], [1, 3]])
+
+    def test_rising_and_not_by_what_parts_need(self):
+        self.assertEqual(ask_tree([0, 0, 0, 1, 3, 5, 1], ("near", 0), ("near", 1), ("near", 3)),
+                         [[3, 1, 2, 3], [3, 0, 4, 7], [2, 0, 5]])
+
+    def test_fourteen(self):
+        self.assertEqual(ask_tree(STAR, ("near", 0), ("near", 1), ("near", 13)),
+                         [[13] + list(range(1, 14)), [1, 0], [1, 0]])
+        self.assertEqual(ask_tree(LONG_ROW, ("near", 0), ("near", 12), ("near", 13)), [[1, 1], [2, 11, 13], [1, 12]])
+
+    def test_who_is_gone_is_not_near(self):
+        self.assertEqual(ask_tree([0, 0], ("drop",), ("near", 0)), [[2], [1, 1]])
+
+    def test_no_such_person(self):
+        self.assertEqual(ask_tree(ROW, ("near", 5), ("near", GREATEST)), [[-2], [-2]])
+
+    def test_on_many_trees(self):
+        for tellers in some_trees():
+            joins = neighbours(tellers)
+            self.assertEqual(ask_tree(tellers, *[("near", p) for p in range(len(joins))]),
+                             [[len(others)] + sorted(others) for others in joins])
+
+
+class Ends(unittest.TestCase):
+    def test_one_person(self):
+        self.assertEqual(one([], "ends"), [0])
+
+    def test_two(self):
+        self.assertEqual(one([0], "ends"), [2, 0, 1])
+
+    def test_a_row(self):
+        self.assertEqual(one(ROW, "ends"), [2, 0, 4])
+        self.assertEqual(one([0, 0, 1, 2], "ends"), [2, 3, 4])
+        self.assertEqual(one(LONG_ROW, "ends"), [2, 0, 13])
+
+    def test_a_star(self):
+        self.assertEqual(one(STAR, "ends"), [13] + list(range(1, 14)))
+        self.assertEqual(one([0] + [1] * 12, "ends"), [13, 0] + list(range(2, 14)))
+
+    def test_a_drop_makes_an_end(self):
+        self.assertEqual(ask_tree([0, 1], ("ends",), ("drop",), ("ends",), ("drop",), ("ends",)),
+                         [[2, 0, 2], [2], [2, 0, 1], [1], [0]])
+
+    def test_on_many_trees(self):
+        for tellers in some_trees():
+            alone = [p for p, others in enumerate(neighbours(tellers)) if len(others) == 1]
+            self.assertEqual(one(tellers, "ends"), [len(alone)] + alone)
+
+
+class State(unittest.TestCase):
+    def test_one_person(self):
+        self.assertEqual(one([], "state"), [1])
+
+    def test_two(self):
+        self.assertEqual(one([0], "state"), [2, 0])
+
+    def test_to_whom_they_were_joined(self):
+        self.assertEqual(one([0, 1, 0, 2, 2], "state"), [6, 0, 1, 0, 2, 2])
+
+    def test_fourteen(self):
+        self.assertEqual(ask_tree(LONG_ROW, ("join", 0), ("state",)), [[-28], [14] + list(range(13))])
+        self.assertEqual(one(STAR, "state"), [14] + [0] * 13)
+
+    def test_after_drop_and_join(self):
+        self.assertEqual(ask_tree([0, 1, 1], ("drop",), ("state",), ("join", 2), ("state",)),
+                         [[3], [3, 0, 1], [3], [4, 0, 1, 2]])
+
+    def test_after_a_begin_in_the_midst(self):
+        self.assertEqual(ask_tree(ROW, ("begin",), ("state",), ("ends",), ("near", 0)), [[0], [1], [0], [0]])
+
+    def test_on_many_trees(self):
+        for tellers in some_trees():
+            self.assertEqual(one(tellers, "state"), [len(tellers) + 1] + tellers)
 
 
 if __name__ == "__main__":

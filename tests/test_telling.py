@@ -1,4 +1,4 @@
-"""Point 2, of hours, plan, by, order and part."""
+"""Point 2."""
 
 import unittest
 
@@ -82,6 +82,47 @@ class By(unittest.TestCase):
         self.assertEqual(ask_tree(BUSH, ("by", 7, 0), ("by", GREATEST, GREATEST)), [[-2], [-2]])
 
 
+class First(unittest.TestCase):
+    def test_one_person_calls_nobody(self):
+        self.assertEqual(ask_tree([], ("first", 0), *look(1)), [[-6]] + ask_tree([], *look(1)))
+
+    def test_no_such_person_comes_before_nobody_to_call(self):
+        self.assertEqual(ask_tree([], ("first", 1), ("first", GREATEST), ("first", 0)), [[-2], [-2], [-6]])
+
+    def test_after_a_drop_nobody_is_left_to_call(self):
+        self.assertEqual(ask_tree([0], ("first", 0), ("drop",), ("first", 0)), [[1, 0], [1], [-6]])
+
+    def test_two(self):
+        self.assertEqual(ask_tree([0], ("first", 0), ("first", 1)), [[1, 0], [0, 0]])
+
+    def test_the_longest_and_what_their_part_needs(self):
+        self.assertEqual(ask_tree(BUSH, *[("first", p) for p in range(7)]),
+                         [[3, 2], [0, 3], [0, 3], [0, 2], [1, 4], [3, 3], [5, 4]])
+
+    def test_a_row(self):
+        self.assertEqual(ask_tree(ROW, *[("first", p) for p in range(5)]), [[1, 3], [2, 2], [1, 1], [2, 2], [3, 3]])
+        self.assertEqual(ask_tree(LONG_ROW, ("first", 0), ("first", 6), ("first", 7), ("first", 13)),
+                         [[1, 12], [7, 6], [6, 6], [12, 12]])
+
+    def test_a_star(self):
+        self.assertEqual(ask_tree(STAR, ("first", 0), ("first", 1), ("first", 13)), [[1, 0], [0, 12], [0, 12]])
+
+    def test_two_parts_that_need_as_long(self):
+        self.assertEqual(ask_tree([0, 0, 2, 1], ("first", 0), ("part", 0, 1), ("part", 0, 2)),
+                         [[1, 1], [1, 2], [1, 2]])
+        # A fork of four needs as long as a row of three: the lesser number, not the part with more people.
+        self.assertEqual(one([0, 0, 1, 3, 2, 2, 6], "first", 0), [1, 2])
+
+    def test_hours_and_not_people_and_not_how_far(self):
+        # 1 has three others to call, 2 has two behind one another.
+        self.assertEqual(one([0, 0, 1, 1, 1, 2, 6], "first", 0), [1, 3])
+        # 1 has two to call, behind 2 there are three behind one another.
+        self.assertEqual(one([0, 0, 1, 1, 2, 5, 6], "first", 0), [2, 3])
+
+    def test_no_such_person(self):
+        self.assertEqual(ask_tree(BUSH, ("first", 7), ("first", GREATEST)), [[-2], [-2]])
+
+
 class Order(unittest.TestCase):
     def test_from_nobody(self):
         self.assertEqual(ask_tree(BUSH, ("order", 0, 0), ("order", 3, 3), ("order", 6, 6)),
@@ -155,10 +196,6 @@ class Refused(unittest.TestCase):
         answered = ask_tree(BUSH, *refused, *look(7))
         self.assertEqual(answered[:8], [[-2], [-2], [-2], [-2], [-22], [-2], [-22], [-22]])
         self.assertEqual(answered[8:], ask_tree(BUSH, *look(7)))
-
-    def test_asking_changes_nothing(self):
-        asked = ask_tree(BUSH, *look(7), *look(7))
-        self.assertEqual(asked[:len(asked) // 2], asked[len(asked) // 2:])
 
 
 if __name__ == "__main__":
