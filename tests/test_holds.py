@@ -92,23 +92,20 @@ class LittleDiffers(unittest.TestCase):
 
 
 class OneWay(unittest.TestCase):
-    def test_as_far_there_as_back(self):
+    def check(self, name, by_way):
+        """The call answers there and back what by_way makes of whom one passes."""
         for tellers in some_trees():
             people = range(len(tellers) + 1)
             pairs = list(itertools.product(people, people))
-            there = ask_tree(tellers, *[("far", p, q) for p, q in pairs])
-            self.assertEqual(there, ask_tree(tellers, *[("far", q, p) for p, q in pairs]))
-            self.assertEqual(there, [[len(way_between(tellers, p, q)) - 1] for p, q in pairs])
+            there = ask_tree(tellers, *[(name, p, q) for p, q in pairs])
+            self.assertEqual(there, ask_tree(tellers, *[(name, q, p) for p, q in pairs]), tellers)
+            self.assertEqual(there, [by_way(way_between(tellers, p, q)) for p, q in pairs], tellers)
+
+    def test_as_far_there_as_back(self):
+        self.check("far", lambda passed: [len(passed) - 1])
 
     def test_the_same_way_there_as_back(self):
-        for tellers in some_trees():
-            people = range(len(tellers) + 1)
-            pairs = list(itertools.product(people, people))
-            there = ask_tree(tellers, *[("between", p, q) for p, q in pairs])
-            self.assertEqual(there, ask_tree(tellers, *[("between", q, p) for p, q in pairs]))
-            for (p, q), answered in zip(pairs, there):
-                passed = sorted(way_between(tellers, p, q))
-                self.assertEqual(answered, [len(passed)] + passed, (tellers, p, q))
+        self.check("between", lambda passed: [len(passed)] + sorted(passed))
 
     def test_one_person_more_than_joins(self):
         for tellers in some_trees():
